@@ -1,0 +1,1 @@
+"""Boxes of exact fractions that hold the courses of differential equations."""
