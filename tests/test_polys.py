@@ -96,6 +96,8 @@ class TestErrors(unittest.TestCase):
         bad = [None, [X], [X, X, X], [X, XY], [X, None], "ab", [], {}, True, [X, list(X)],
                [(((True,), (1, 1)),), X], [(((9,), (1, 1)),), X]]
         check_calls(self, put_polys, [("poly", XY, POLY), ("polys", [X, X], (InvalidPolys, bad))])
+        self.assertEqual(put_polys(EIGHT, [X] * 8), (((8,), (1, 2)),))
+        self.assertEqual(put_polys((), [X] * 8), ())
         bad = [[], [X] * 9, [X, XY], None]
         check_calls(self, put_polys, [("poly", (), POLY), ("polys", (X, ()), (InvalidPolys, bad))])
 

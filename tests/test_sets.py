@@ -69,7 +69,8 @@ class TestSets(unittest.TestCase):
         wide, high = ((U, N),), ((U, N), (N, U), (U, U))
         flat = ((U, TWO), (TWO, (4, 1)))
         for matrix, point, error in [
-                (((U,),), (U, U), UnlikeSizes), (wide, (U, U), UnlikeSizes), (flat, (U,), UnlikeSizes),
+                (((U,),), (U, U), UnlikeSizes), (((U,),), (U,), UnlikeSizes),
+                (unit_matrix(3), (U, U, U), UnlikeSizes), (wide, (U, U), UnlikeSizes), (flat, (U,), UnlikeSizes),
                 (high, (U, U), UnlikeSizes), (wide, (U,), NotSquare), (high, (U, U, U), NotSquare),
                 (flat, (U, U), NoInverse)]:
             refuses(moved_set, error, {}, SLANTED, matrix, point)

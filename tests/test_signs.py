@@ -94,6 +94,11 @@ class TestPapers(unittest.TestCase):
                             (bush(201), False)]:
             self.assertIs(is_sign_paper(one, UNIT, "above", paper), told)
         self.assertEqual(parts_and_depth(bush(200))[0], 399)
+        mirrored = LEAF
+        for _ in range(39):
+            mirrored = ("cut", 0, LEAF, mirrored)
+        self.assertIs(is_sign_paper(one, UNIT, "above", mirrored), True)
+        self.assertIs(is_sign_paper(one, UNIT, "above", ("cut", 0, LEAF, mirrored)), False)
 
     def test_shared_parts(self):
         # As a tree this paper has more parts than could ever be gone through.
@@ -112,6 +117,17 @@ class TestPapers(unittest.TestCase):
         deep = ("cut", 0, cut, LEAF)
         for box, paper in [(((0, 3 * ONE),), deep), (((ONE, 3 * ONE),), cut)]:
             self.assertIs(is_sign_paper(line, box, "above", paper), holds(line, box, "above", paper))
+
+    def test_each_part_has_its_piece(self):
+        # The piece from 0 to 1 needs a cut, the one beside it does not.
+        poly = (((0,), (17, 64)), ((1,), (-1, 1)), ((2,), (1, 1)))
+        cut = ("cut", 0, LEAF, LEAF)
+        first, second = ((0, 2 * ONE),), ((-ONE, ONE),)
+        for box, paper, told in [
+                (first, ("cut", 0, cut, LEAF), True), (first, ("cut", 0, LEAF, cut), False),
+                (second, ("cut", 0, LEAF, cut), True), (second, ("cut", 0, cut, LEAF), False)]:
+            self.assertIs(is_sign_paper(poly, box, "above", paper), told)
+            self.assertIs(holds(poly, box, "above", paper), told)
 
     def test_corners_only_where_needed(self):
         box = ((ONE, 2 * ONE),) * 4
@@ -188,6 +204,24 @@ class TestSignOn(unittest.TestCase):
         self.assertEqual(self.check(turned, UNIT, 199), "below")
         two = (((0, 0), (1, 20)), ((0, 2), (1, 1)), ((1, 1), (-2, 1)), ((2, 0), (1, 1)))
         self.assertEqual(self.check(two, ((0, ONE), (0, ONE)), 199), "above")
+
+    def test_room(self):
+        # Cuts are needed all along the line x = y.
+        poly = (((0, 0), (1, 40)), ((0, 2), (1, 1)), ((1, 1), (-2, 1)), ((2, 0), (1, 1)))
+        box = ((0, ONE), (0, ONE))
+        needed = (parts_and_depth(sign_on(poly, box, 199)[1])[0] - 1) // 2
+        self.assertTrue(2 < needed < 199)
+        for room in range(needed + 2):
+            self.check(poly, box, room)
+        self.assertIs(sign_on(poly, box, needed) is None, False)
+
+    def test_depth(self):
+        # The closer to 0 the poly comes, the deeper the cuts; they may not go on for ever.
+        seen = set()
+        for power in range(20, 100, 4):
+            poly = (((0,), (2 ** power + 9, 9 * 2 ** power)), ((1,), (-2, 3)), ((2,), (1, 1)))
+            seen.add(self.check(poly, ((-2 ** 54, 2 ** 54),), 199))
+        self.assertEqual(seen, {"above", None})
 
     def test_many(self):
         random = Random(11)

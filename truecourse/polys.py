@@ -2,7 +2,7 @@
 
 from truecourse.boxes import check_point, check_point_of
 from truecourse.errors import (
-    InvalidMany, InvalidName, InvalidPoly, InvalidPolys, InvalidPosition, InvalidSystem,
+    InvalidMany, InvalidPoly, InvalidPolys, InvalidPosition, InvalidSystem,
     InvalidTerms, TooMany, UnlikeLetters)
 from truecourse.kinds import MOST_LETTERS, is_count, is_from_to, is_listed
 from truecourse.ratios import check_ratio, is_ratio
@@ -24,11 +24,6 @@ def is_name(value):
     if value[0] not in SMALL_LETTERS or value in WORDS:
         return False
     return all(character in NAME_CHARACTERS for character in value)
-
-
-def check_name(name):
-    if not is_name(name):
-        raise InvalidName(name)
 
 
 def are_names(value):
