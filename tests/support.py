@@ -4,8 +4,9 @@ import copy
 import inspect
 
 from truecourse.errors import (
-    InvalidBox, InvalidInterval, InvalidMatrix, InvalidPoint, InvalidPoly, InvalidRatio, InvalidRow,
-    InvalidSet, InvalidSystem, InvalidText, TooMany)
+    InvalidBox, InvalidExpression, InvalidInterval, InvalidMany, InvalidMatrix, InvalidModel, InvalidPoint,
+    InvalidPoly, InvalidRatio, InvalidRoom, InvalidRow, InvalidSet, InvalidSettings, InvalidStep,
+    InvalidSystem, InvalidText, TooMany)
 
 ONE = 2 ** 40
 MOST = 2 ** 70
@@ -55,6 +56,52 @@ SETS = OTHERS + [
     ("set", ((0, 1), (0, 1)), (((1, 1), (2, 1)), ((2, 1), (4, 1))), ((0, 1), (0, 1))),
     ("set", ((True, 1),), (((1, 1),),), ((0, 1),)), ("set", ((0, 1),), (((1, 1),),), ((0, True),))]
 TEXTS = OTHERS + [3, (), ["a"], ("a",)]
+X = ("name", "x")
+EXPRESSIONS = OTHERS + [
+    3, "x", (), ("x",), ["name", "x"], ("number",), ("number", 3), ("number", (-1, 2)), ("number", (2, 4)),
+    ("number", [1, 2]), ("number", (True, 1)), ("number", (1, True)), ("number", (1, 1), (1, 1)), ("name",),
+    ("name", "X"), ("name", "exp"), ("name", None), ("name", "x", "y"), ("name", ""), ("name", "x" * 13),
+    ("plus", X), ("plus", X, X, X), ("plus", X, None), ("plus", None, X), ["plus", X, X], ("plus", X, ["name", "x"]),
+    ("Plus", X, X), (None, X, X), (True, X), ("neg",), ("neg", X, X), ("neg", "x"), ("power", X), ("power", X, 9),
+    ("power", X, -1), ("power", X, True), ("power", X, False), ("power", X, (1, 1)), ("power", X, None),
+    ("power", X, X), ("power", None, 2), ("call", "tan", X), ("call", "exp"), ("call", X, "exp"),
+    ("call", None, X), ("call", ["exp"], X), ("call", "exp", X, X), ("call", "exp", None), ("exp", X),
+    ("over", X, ("number", (0, True))), ("times", X, ("times", X, ("neg", ("name", "to"))))]
+
+
+def model_of(slope, time=None, givens=()):
+    """A model with the letter x, begun at 1."""
+    return ("model", time, givens, (("x", (1, 1), (1, 1), slope),))
+
+
+MODELS = OTHERS + [
+    3, "model", (), list(model_of(X)), ("models",) + model_of(X)[1:], (None,) + model_of(X)[1:], model_of(X)[:3],
+    model_of(X) + (None,), model_of(X, "X"), model_of(X, True), model_of(X, "x"), model_of(X, ["t"]),
+    model_of(X, givens=[]), model_of(X, givens=None), model_of(X, givens=("g",)), model_of(X, givens=(("g", (1, 1)),)),
+    model_of(X, givens=(("x", (1, 1), (1, 1)),)), model_of(X, givens=(("g", (1, 1), (0, 1)),)),
+    model_of(X, givens=(["g", (1, 1), (1, 1)],)), model_of(X, givens=(("g", (1, 1), (1, 1), X),)),
+    model_of(X, givens=(("g", 1, 1),)), model_of(X, givens=(("g", (True, 1), (1, 1)),)),
+    model_of(X, "g", (("g", (1, 1), (1, 1)),)), model_of(("name", "y")), model_of(("neg", ("name", "t"))),
+    model_of(None), model_of(("number", (True, 1))), ("model", None, (), ()), ("model", None, (), [("x", (1, 1), (1, 1), X)]),
+    ("model", None, (), (("x", (1, 1), (1, 1)),)), ("model", None, (), (("x", (2, 1), (1, 1), X),)),
+    ("model", None, (), (("x", (0, 2), (1, 1), X),)), ("model", None, (), (("x", (1, 1), (1, 1), X),) * 2),
+    ("model", None, (), (("time", (1, 1), (1, 1), ("number", (1, 1))),)), ("model", None, (), ("x",)),
+    ("model", None, (), tuple((name, (1, 1), (1, 1), X) for name in "xabcdefgh")),
+    model_of(X, "t", tuple((name, (1, 1), (1, 1)) for name in "abcdefg"))]
+
+GOOD_SETTINGS = ("settings", "box", 2, ONE, 1, 60, ONE, 4)
+
+
+def with_part(value, place, part):
+    """A tuple with one part put in the place of another one."""
+    return value[:place] + (part,) + value[place + 1:]
+
+
+SETTINGS = OTHERS + [3, "settings", (), list(GOOD_SETTINGS), GOOD_SETTINGS[:7], GOOD_SETTINGS + (1,)] + [
+    with_part(GOOD_SETTINGS, place, part) for place, part in [
+        (0, "setting"), (0, None), (0, True), (1, "Box"), (1, ["box"]), (1, None), (1, True), (2, 0), (2, 9), (2, True),
+        (2, "2"), (3, 0), (3, 8 * ONE + 1), (3, True), (3, None), (4, 0), (4, ONE + 1), (4, True), (4, None), (5, 0), (5, 61),
+        (5, True), (6, 0), (6, 2 ** 60 + 1), (6, True), (6, (ONE,)), (7, -1), (7, 41), (7, True), (7, False), (7, None)]]
 
 
 def counts_wrong(least, most):
@@ -72,6 +119,12 @@ MATRIX = (InvalidMatrix, MATRICES)
 ROW = (InvalidRow, POINTS)
 SET = (InvalidSet, SETS)
 TEXT = (InvalidText, TEXTS)
+EXPRESSION = (InvalidExpression, EXPRESSIONS)
+MODEL = (InvalidModel, MODELS)
+SETTING = (InvalidSettings, SETTINGS)
+STEP = (InvalidStep, counts_wrong(1, 8 * ONE))
+ORDER = (InvalidMany, counts_wrong(1, 8))
+ROOM = (InvalidRoom, counts_wrong(0, 40))
 
 
 def caught(error, call, *values, **named):

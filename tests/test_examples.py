@@ -12,7 +12,10 @@ import unittest
 
 HERE = os.path.dirname(os.path.abspath(__file__))
 FILES = """ratios intervals boxes polys nested polytexts ranges corners signs matrices kernels sets
-exponentials circles roots tokens""".split()
+exponentials circles roots tokens models parser printer flattening plainseries series slopeseries held
+steps during carried choosing settings runs tubes runners kept""".split()
+# Its examples stand with those of the parser.
+WITHOUT_EXAMPLES = ["printer"]
 
 
 def sections():
@@ -39,7 +42,8 @@ class TestExamples(unittest.TestCase):
                 self.assertEqual("".join(told), "")
 
     def test_each_file_has_some(self):
-        self.assertEqual([name for name, _ in sections()], [f"truecourse/{name}.py" for name in FILES])
+        self.assertEqual([name for name, _ in sections()],
+                         [f"truecourse/{name}.py" for name in FILES if name not in WITHOUT_EXAMPLES])
 
 
 class TestInterface(unittest.TestCase):
@@ -52,6 +56,12 @@ class TestInterface(unittest.TestCase):
             path, _, rest = line.partition(" ")
             name, _, parameters = rest.partition("(")
             module = importlib.import_module(path[:-3].replace("/", "."))
-            function = getattr(module, name)
+            holder, _, own = name.rpartition(".")
+            # A method stands in the class itself, not in one above it only.
+            function = vars(getattr(module, holder))[own] if holder else getattr(module, name)
             self.assertEqual(function.__module__, module.__name__)
             self.assertEqual(str(inspect.signature(function)), "(" + parameters)
+
+    def test_properties(self):
+        runner = importlib.import_module("truecourse.runners").Runner
+        self.assertIsInstance(vars(runner)["time"], property)
