@@ -121,6 +121,40 @@ def layout_faults(module):
     return found
 
 
+def class_faults(module):
+    """L5, L18: what stands in classes."""
+    found = []
+    for own in ast.walk(module.tree):
+        if not isinstance(own, ast.ClassDef):
+            continue
+        place = f"{module.path}:{own.lineno} {own.name}"
+        methods = [node.name for node in own.body if isinstance(node, ast.FunctionDef)]
+        attributes = {
+            node.attr for node in ast.walk(own) if isinstance(node, ast.Attribute) and isinstance(node.ctx, ast.Store)}
+        found.extend(f"L18 {place} {name}" for name in attributes & set(methods))
+        found.extend(f"L18 {place} {name}" for name in set(methods) if methods.count(name) > 1)
+        for node in own.body:
+            if isinstance(node, ast.FunctionDef):
+                if [ast.unparse(part) for part in node.decorator_list] not in ([], ["property"]):
+                    found.append(f"L5 {place} {node.name}")
+            elif not isinstance(node, ast.Expr) or not isinstance(node.value, ast.Constant):
+                found.append(f"L5 {place}:{node.lineno}")
+        for decorator in own.decorator_list:
+            found.append(f"L5 {place}:{decorator.lineno}")
+    return found
+
+
+def handler_faults(module):
+    """L19: of Python's own errors only these are caught; own ones are those of the file errors."""
+    found = []
+    for node in ast.walk(module.tree):
+        if isinstance(node, ast.ExceptHandler):
+            name = node.type.id if isinstance(node.type, ast.Name) else None
+            if name not in ("KeyError", "ZeroDivisionError") and module.imports.get(name) != PACKAGE + ".errors":
+                found.append(f"L19 {module.path}:{node.lineno}")
+    return found
+
+
 def import_faults(module, modules):
     """L2, L16: what is imported, and from where."""
     found = []
@@ -401,6 +435,8 @@ def all_faults():
         found.extend(layout_faults(module))
         found.extend(import_faults(module, modules))
         found.extend(top_faults(module))
+        found.extend(class_faults(module))
+        found.extend(handler_faults(module))
         found.extend(name_faults(module))
         found.extend(word_faults(module))
         found.extend(statement_faults(module))

@@ -80,7 +80,7 @@ MODELS = OTHERS + [
     model_of(X, givens=[]), model_of(X, givens=None), model_of(X, givens=("g",)), model_of(X, givens=(("g", (1, 1)),)),
     model_of(X, givens=(("x", (1, 1), (1, 1)),)), model_of(X, givens=(("g", (1, 1), (0, 1)),)),
     model_of(X, givens=(["g", (1, 1), (1, 1)],)), model_of(X, givens=(("g", (1, 1), (1, 1), X),)),
-    model_of(X, givens=(("g", 1, 1),)), model_of(X, givens=(("g", (True, 1), (1, 1)),)),
+    model_of(X, givens=(("g", (1, 1), (2, 2)),)), model_of(X, givens=(("g", (1, 1), None),)), model_of(X, givens=(("g", 1, 1),)), model_of(X, givens=(("g", (True, 1), (1, 1)),)),
     model_of(X, "g", (("g", (1, 1), (1, 1)),)), model_of(("name", "y")), model_of(("neg", ("name", "t"))),
     model_of(None), model_of(("number", (True, 1))), ("model", None, (), ()), ("model", None, (), [("x", (1, 1), (1, 1), X)]),
     ("model", None, (), (("x", (1, 1), (1, 1)),)), ("model", None, (), (("x", (2, 1), (1, 1), X),)),

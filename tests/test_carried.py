@@ -78,10 +78,15 @@ class TestRanges(unittest.TestCase):
                 matrix = some_square(random, letters)
                 middle = tuple(some_ratio(random) for _ in range(letters))
                 step, many = ONE // random.randint(4, 40), random.randint(1, 6)
-                held = tuple((low - ONE, high + ONE) for low, high in STARTS[name])
-                wanted = formulas.ranges(
-                    system[2], source, step, many, held, middle, matrix, inverse(matrix))
-                self.assertEqual(ranges(system, source, step, many, held, middle, matrix), wanted, name)
+                more = random.choice([ONE, 2 ** 50, 2 ** 60])
+                held = tuple((low - more, high + more) for low, high in STARTS[name])
+                try:
+                    wanted = formulas.ranges(
+                        system[2], source, step, many, held, middle, matrix, inverse(matrix))
+                except formulas.Beyond:
+                    too_many(ranges, "grains", MOST, system, source, step, many, held, middle, matrix)
+                else:
+                    self.assertEqual(ranges(system, source, step, many, held, middle, matrix), wanted, name)
 
     def test_grains(self):
         edge = set_of_box(((2 ** 55, 2 ** 55 + 1),))

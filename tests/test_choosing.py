@@ -89,6 +89,13 @@ class TestCarried(unittest.TestCase):
         self.assertIsNone(carried(STILL, far, 1, 1, 9))
         self.assertIsNotNone(carried(BURSTS, set_of_box(((2 ** 54, 2 ** 54),)), 1, 1, 40))
 
+    def test_sides_of_less_than_a_grain(self):
+        # The matrix near that of the step would be 0; sides and numbers may be as unlike as they are.
+        for matrix, box in [((((1, 2 ** 60),),), ((-MOST, MOST),)), ((((1, 2 ** 60),),), ((0, 0),)), ((((2 ** 29, 1),),), ((0, 0),))]:
+            source = ("set", ((1, 1),), matrix, box)
+            for own in (STILL, GROWS):
+                self.assertIsNotNone(self.check(own, source, ONE // 8, 2, 9))
+
     def test_turning(self):
         """[96]: the boxes of the sets grow by some grains alone, upright ones by an eighth."""
         box = ((ONE, ONE + ONE // 10), (0, ONE // 10))

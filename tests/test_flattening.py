@@ -98,6 +98,11 @@ class TestLetters(unittest.TestCase):
         self.check(flat, {"x": "q1*q3", "y": "q4", "q1": "q1*q1*q3", "q2": "2*q2*q1*q3", "q3": "-q3*q3*2*q2*q1*q3",
                           "q4": "q4*q4"}, ["q2*q3 - 1"])
 
+    def test_many_pairs(self):
+        # Each adds two letters, the last one of which is the last one of all.
+        check_form(self, flat_of("sin(x) + sin(2 * x) + cos(3 * x)"))
+        check_form(self, flat_of("root(x) + root(2 * x) + root(3 * x)"))
+
     def test_met_twice(self):
         for text, many in [("1 / x + 2 / x", 1), ("1 / x + x / (x + x - x)", 1), ("exp(x) + exp(2 * x / 2)", 1),
                            ("sin(x) + cos(x)", 2), ("cos(x) * sin(x) + cos(x)", 2), ("1 / x + log(x)", 2), ("log(x) - 3 / x", 2),

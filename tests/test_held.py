@@ -60,11 +60,20 @@ class TestStays(unittest.TestCase):
             more = random.choice([5, ONE // 4, ONE])
             held = tuple((low - random.randint(0, more), high + random.randint(0, more)) for low, high in box)
             step = random.choice([1, random.randint(1, ONE // 8), ONE // 50])
-            self.assertEqual(needed_box(system, box, step, held), formulas.needed(system[2], box, step, held))
+            if k % 5 == 4:
+                held = tuple((low - 2 ** 58, high + 2 ** 50) for low, high in held)
+            try:
+                wanted = formulas.needed(system[2], box, step, held)
+            except formulas.Beyond:
+                seen.add(None)
+                for function in (stays, needed_box):
+                    too_many(function, "grains", MOST, system, box, step, held)
+                continue
+            self.assertEqual(needed_box(system, box, step, held), wanted)
             told = stays(system, box, step, held)
             self.assertIs(told, formulas.holds(system[2], box, step, held))
             seen.add(told)
-        self.assertEqual(seen, {True, False})
+        self.assertEqual(seen, {True, False, None})
 
     def test_grains(self):
         edge = ((2 ** 55, 2 ** 55),)
@@ -102,6 +111,12 @@ class TestHeldBox(unittest.TestCase):
         for name, (system, _) in KNOWN.items():
             for step in (1, 1000, ONE // 100):
                 self.assertTrue(self.check(system, STARTS[name], step, 1), (name, step))
+
+    def test_twice_the_way(self):
+        # x' = 1 - x from 0: of a trial box that goes three times the way the slopes would change signs.
+        bends = ("system", ("x",), ((((0,), (1, 1)), ((1,), (-1, 1))),))
+        self.assertTrue(self.check(bends, ((0, 0),), 9 * ONE // 20, 1))
+        self.assertFalse(self.check(bends, ((0, 0),), 11 * ONE // 20, 1))
 
     def test_room(self):
         self.assertIsNone(held_box(FALLS, UNIT, QUARTER, 0))

@@ -114,6 +114,8 @@ class TestExpressionTexts(unittest.TestCase):
                 ("1/2", num("1/2")), ("1 / 2", ("over", num(1), num(2))), ("1/ 2", ("over", num(1), num(2))),
                 ("1/2/3", ("over", num("1/2"), num(3))), ("1 /2/3", ("over", num(1), num("2/3"))),
                 ("x + y - x", ("minus", ("plus", X, Y), X)), ("x + y * x", ("plus", X, ("times", Y, X))),
+                ("x + y / x", ("plus", X, ("over", Y, X))), ("x - y / x * y", ("minus", X, ("times", ("over", Y, X), Y))),
+                ("x - -y / x + y", ("plus", ("minus", X, ("over", ("neg", Y), X)), Y)), ("(x + y / x)", ("plus", X, ("over", Y, X))),
                 ("x * y / x", ("over", ("times", X, Y), X)), ("x - (y - x)", ("minus", X, ("minus", Y, X))),
                 ("-x * y", ("times", ("neg", X), Y)), ("-(x * y)", ("neg", ("times", X, Y))), ("- - x", ("neg", ("neg", X))),
                 ("exp(0.5)", call("exp", num("1/2"))), ("sin (x) ^ 2", ("power", call("sin", X), 2)),
@@ -165,7 +167,12 @@ class TestExpressionTexts(unittest.TestCase):
 
     def test_sizes(self):
         self.assertEqual(parse_expression("-" * 29 + "x"), chain(30))
-        too_many(parse_expression, "depth", 30, "-" * 30 + "x")
+        self.assertEqual(parse_expression("-" * 29 + "1")[0], "neg")
+        for last in ("x", "1"):
+            too_many(parse_expression, "depth", 30, "-" * 30 + last)
+        numbers = "(" + " + ".join(["(1 + 2 + 3 + 4 + 5)"] * 20) + ")"
+        self.assertEqual(parts(parse_expression("-" + numbers)), 200)
+        too_many(parse_expression, "parts", 200, "--" + numbers)
         self.assertEqual(parse_expression(expression_text(bush(199))), bush(199))
         self.assertEqual(parts(parse_expression("-(" + expression_text(bush(199)) + ")")), 200)
         too_many(parse_expression, "parts", 200, expression_text(bush(101)) + "+ (" + expression_text(bush(99)) + ")")

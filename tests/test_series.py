@@ -64,7 +64,7 @@ class TestSeriesOn(unittest.TestCase):
         for k in range(60):
             letters = 1 + k % 4
             system = some_system(random, letters)
-            box = tuple(some_interval(random, random.choice([9, ONE, 3 * ONE])) for _ in range(letters))
+            box = tuple(some_interval(random, random.choice([9, ONE, 2 ** 52, 2 ** 60])) for _ in range(letters))
             many = random.randint(1, 9)
             try:
                 wanted = formulas.series(system[2], box, many - 1)

@@ -65,7 +65,7 @@ class TestSlopes(unittest.TestCase):
         for k in range(40):
             letters = 1 + k % 3
             system = some_system(random, letters)
-            box = tuple(some_interval(random, random.choice([9, ONE, 3 * ONE])) for _ in range(letters))
+            box = tuple(some_interval(random, random.choice([9, ONE, 2 ** 52, 2 ** 60])) for _ in range(letters))
             many = random.randint(1, 6)
             try:
                 wanted = formulas.slopes(system[2], box, many)

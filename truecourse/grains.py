@@ -104,6 +104,9 @@ def grain_products(firsts, seconds):
         if a >= 0 and c >= 0:
             least = a * c
             greatest = b * d
+        elif b <= 0 and d <= 0:
+            least = b * d
+            greatest = a * c
         else:
             ends = (a * c, a * d, b * c, b * d)
             least = min(ends)
@@ -112,6 +115,6 @@ def grain_products(firsts, seconds):
         up = -(-greatest >> 40)
         low += down
         high += up
-        if min(down, low) < -MOST_GRAINS or max(up, high) > MOST_GRAINS:
+        if down < -MOST_GRAINS or up > MOST_GRAINS or low < -MOST_GRAINS or high > MOST_GRAINS:
             raise TooMany("grains", MOST_GRAINS)
     return (low, high)

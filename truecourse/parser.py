@@ -215,7 +215,6 @@ def _read_row(tokens, at, told):
     token = tokens[at]
     if token[0] == "end":
         return at
-    _check_kind(token, "word")
     word = token[1]
     if word == "given":
         begun, at = _read_begin(tokens, at + 1, told)

@@ -1,0 +1,20 @@
+"""What README.md shows can be done."""
+
+import os
+import re
+import unittest
+
+from tests.test_examples import HERE
+from truecourse.runs import is_run
+
+
+class TestReadme(unittest.TestCase):
+    def test_programs(self):
+        with open(os.path.join(os.path.dirname(HERE), "README.md"), encoding="utf-8") as file:
+            programs = re.findall(r"```python\n(.*?)```", file.read(), re.DOTALL)
+        names = {}
+        for program in programs:
+            exec(program, names)
+        self.assertEqual(names["told"][0], "whole")
+        self.assertIs(is_run(names["runner"].told()), True)
+        self.assertEqual(names["word"], "above")
