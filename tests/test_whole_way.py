@@ -62,7 +62,7 @@ class TestWholeWay(unittest.TestCase):
                         self.assertTrue(lies_in(row, box_between(told[1], time // 2, time)[:own]), (name, kind, time))
 
     def test_boxes_are_not_much_wider_than_the_courses(self):
-        for name, most in [("dies", 3 * ONE // 5), ("over", ONE // 5), ("exp", ONE // 5), ("sin", 21 * ONE // 10), ("log", ONE // 1000)]:
+        for name, most in [("dies", 3 * ONE // 5), ("over", ONE // 4), ("exp", ONE // 5), ("sin", 21 * ONE // 10), ("log", ONE // 1000)]:
             _, system, box, _ = flattened(parse_model(MODELS[name][0]))
             told = run(system, box, ONE, plain_settings("set", 8))
             position = system[1].index("x")
