@@ -11,6 +11,7 @@ from tests.reference import ends, fraction, ratio, some_interval, some_poly, som
 from tests.support import (
     BOXES, INTERVAL, INTERVALS, MOST, ONE, OTHERS, POINTS, RATIO, RATIOS, SYSTEM, check_calls, counts_wrong, too_many)
 from truecourse.errors import InvalidBox, InvalidCoefficients, InvalidMany, InvalidPoint
+from truecourse.grains import grain_products
 from truecourse.plainseries import plain_series
 from truecourse.series import series_at, series_on, sum_of, sum_on
 
@@ -98,6 +99,55 @@ class TestSeriesOn(unittest.TestCase):
         # What comes back within on the way counts: 2 x - x is x.
         back = ("system", ("x", "y"), ((((0, 1), (-1, 1)), ((1, 0), (2, 1))), ()))
         too_many(series_on, "grains", MOST, back, ((MOST, MOST), (MOST, MOST)), 2)
+
+
+    def test_products_beyond(self):
+        # The product goes beyond, whatever the ratio makes of it behind.
+        thin = ("system", ("x", "y"), ((((1, 1), (1, 2 ** 20)),), ()))
+        edge = (2 ** 55, 2 ** 55)
+        self.assertEqual(series_on(thin, (edge, edge), 2)[0][1], (2 ** 50, 2 ** 50))
+        for wide in [(2 ** 55, 2 ** 55 + 1), (-2 ** 55 - 1, 5)]:
+            too_many(series_on, "grains", MOST, thin, (edge, wide), 2)
+            too_many(series_on, "grains", MOST, thin, (wide, edge), 2)
+
+
+class TestProducts(unittest.TestCase):
+    """The short way of the sum of products is the same as the long one."""
+
+    def test_same(self):
+        random = Random(77)
+        seen = set()
+        for _ in range(3000):
+            size = random.choice([2, ONE, 2 ** 55, 2 ** 55 + 2 ** 40])
+            many = random.randint(1, 3)
+            firsts, seconds = ([some_interval(random, size) for _ in range(many)] for _ in range(2))
+            if random.random() < 0.3:
+                firsts = [(high, high) for _, high in firsts]
+            total = (0, 0)
+            try:
+                for one, other in zip(firsts, seconds):
+                    total = formulas.plus(total, formulas.times(one, other))
+            except formulas.Beyond:
+                total = None
+            seen.add(total is None)
+            if total is None:
+                too_many(grain_products, "grains", MOST, firsts, seconds)
+            else:
+                self.assertEqual(grain_products(firsts, seconds), total)
+        self.assertEqual(seen, {True, False})
+
+    def test_edges(self):
+        edge, one = (2 ** 55, 2 ** 55), (ONE, ONE)
+        for firsts, seconds, told in [
+                ([edge], [edge], (MOST, MOST)), ([edge], [(-2 ** 55,) * 2], (-MOST, -MOST)), ([edge, one], [edge, (1, 1)], None),
+                ([edge, one, one], [edge, (1, 1), (-1, -1)], None), ([edge, one], [(-2 ** 55,) * 2, (-1, -1)], None),
+                ([edge, one], [edge, (-1, -1)], (MOST - 1, MOST - 1)), ([edge], [(2 ** 55, 2 ** 55 + 1)], None),
+                ([edge], [(-2 ** 55 - 1, 0)], None), ([(-1, 1)], [(-1, 1)], (-1, 1)), ([(-3, -1)], [(-2, -1)], (0, 1)),
+                ([one, edge], [(-1, -1), (2 ** 55, 2 ** 55 + 1)], None), ([], [], (0, 0))]:
+            if told is None:
+                too_many(grain_products, "grains", MOST, firsts, seconds)
+            else:
+                self.assertEqual(grain_products(firsts, seconds), told)
 
 
 class TestSums(unittest.TestCase):
