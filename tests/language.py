@@ -135,7 +135,7 @@ def class_faults(module):
         found.extend(f"L18 {place} {name}" for name in set(methods) if methods.count(name) > 1)
         for node in own.body:
             if isinstance(node, ast.FunctionDef):
-                if [ast.unparse(part) for part in node.decorator_list] not in ([], ["property"]):
+                if [ast.unparse(part) for part in node.decorator_list] not in ([], ["property"], ["classmethod"]):
                     found.append(f"L5 {place} {node.name}")
             elif not isinstance(node, ast.Expr) or not isinstance(node.value, ast.Constant):
                 found.append(f"L5 {place}:{node.lineno}")
@@ -149,9 +149,11 @@ def handler_faults(module):
     found = []
     for node in ast.walk(module.tree):
         if isinstance(node, ast.ExceptHandler):
-            name = node.type.id if isinstance(node.type, ast.Name) else None
-            if name not in ("KeyError", "ZeroDivisionError") and module.imports.get(name) != PACKAGE + ".errors":
-                found.append(f"L19 {module.path}:{node.lineno}")
+            caught = node.type.elts if isinstance(node.type, ast.Tuple) else [node.type]
+            for part in caught:
+                name = part.id if isinstance(part, ast.Name) else None
+                if name not in ("KeyError", "ZeroDivisionError") and module.imports.get(name) != PACKAGE + ".errors":
+                    found.append(f"L19 {module.path}:{node.lineno}")
     return found
 
 

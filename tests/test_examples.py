@@ -13,7 +13,8 @@ import unittest
 HERE = os.path.dirname(os.path.abspath(__file__))
 FILES = """ratios intervals boxes polys nested polytexts ranges corners signs matrices kernels sets
 exponentials circles roots tokens models parser printer flattening plainseries series slopeseries held
-steps during carried choosing settings runs tubes runners kept""".split()
+steps during carried choosing settings runs tubes runners kept narrowing safe guards crossings machines lags
+switching grids tables backward joining letters times judge records commands desk""".split()
 # Its examples stand with those of the parser.
 WITHOUT_EXAMPLES = ["printer"]
 
@@ -59,6 +60,8 @@ class TestInterface(unittest.TestCase):
             holder, _, own = name.rpartition(".")
             # A method stands in the class itself, not in one above it only.
             function = vars(getattr(module, holder))[own] if holder else getattr(module, name)
+            if isinstance(function, classmethod):
+                function = getattr(getattr(module, holder), own)
             self.assertEqual(function.__module__, module.__name__)
             self.assertEqual(str(inspect.signature(function)), "(" + parameters)
 

@@ -81,13 +81,16 @@ def widest(box):
     return widths.index(max(widths))
 
 
+def with_interval(box, position, interval):
+    """The box with another interval at a position."""
+    return box[:position] + (interval,) + box[position + 1:]
+
+
 def box_halves(box, position):
     """The two boxes into which a box is split at a position."""
     low, high = box[position]
     half = middle_of(box[position])
-    ahead = box[:position]
-    behind = box[position + 1:]
-    return (ahead + ((low, half),) + behind, ahead + ((half, high),) + behind)
+    return (with_interval(box, position, (low, half)), with_interval(box, position, (half, high)))
 
 
 def split_box(box, position):

@@ -33,9 +33,13 @@ def check_room(room):
         raise InvalidRoom(room)
 
 
+def is_time_to(value, most):
+    """Whether any value is a COUNT to the greatest one that is let."""
+    return is_count(value) and value <= most
+
+
 def check_time(time, most):
-    """A time must be a COUNT to the greatest one that is let."""
-    if not is_count(time) or time > most:
+    if not is_time_to(time, most):
         raise InvalidTime(time)
 
 

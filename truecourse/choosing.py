@@ -167,19 +167,25 @@ def _best_target(polys, source, step, many, held):
     return best
 
 
+def carried_with(polys, source, step, many, held):
+    """The carried paper with a box that holds the courses from the set's hull.
+
+    None, or TooMany, where numbers of too many grains would be needed.
+    """
+    target = _best_target(polys, source, step, many, held)
+    if target is None:
+        return None
+    return ("carried", source, step, many, held, target)
+
+
 def found_carried(system, source, step, many, room):
     """A carried paper that is taken, None if none is found."""
     polys = system[2]
     try:
         held = found_held(polys, hull_of_set(source), step, room)
-        if held is None:
-            return None
-        target = _best_target(polys, source, step, many, held)
+        return None if held is None else carried_with(polys, source, step, many, held)
     except TooMany:
         return None
-    if target is None:
-        return None
-    return ("carried", source, step, many, held, target)
 
 
 def carried(system, source, step, many, room):

@@ -80,6 +80,11 @@ def _weighed(numbers, degrees, position, weights):
     return result
 
 
+def has_few_corners(poly, letters):
+    """Whether a POLY in so many letters has no more corner numbers than may be asked for."""
+    return _how_many(_greatest_degrees(poly, letters)) <= _MOST_CORNERS
+
+
 def corners_of(poly, box):
     """The corner numbers of a POLY over a box, both known to be such."""
     degrees = _greatest_degrees(poly, len(box))
@@ -106,11 +111,18 @@ def corner_numbers(poly, box):
     return corners_of(poly, box)
 
 
-def corner_range(poly, box):
-    numbers = corner_numbers(poly, box)
+def corner_range_on(poly, box):
+    """The least interval that has all corner numbers of a POLY that is known to be one."""
+    numbers = corners_of(poly, box)
     lows = [floor_of(number, ONE) for number in numbers]
     highs = [ceiling_of(number, ONE) for number in numbers]
     return in_bounds(min(lows), max(highs))
+
+
+def corner_range(poly, box):
+    check_poly(poly)
+    check_box_for(poly, box)
+    return corner_range_on(poly, box)
 
 
 def _are_degrees(value):

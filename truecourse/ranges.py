@@ -60,6 +60,16 @@ def best_on(poly, box):
     return grain_meet(grain_meet(plain, nested), mean)
 
 
+def word_of(interval):
+    """Whether all numbers are above 0, or all below; None if neither is so."""
+    low, high = interval
+    if low > 0:
+        return "above"
+    if high < 0:
+        return "below"
+    return None
+
+
 def _check_both(poly, box):
     check_poly(poly)
     check_box_for(poly, box)

@@ -29,7 +29,7 @@ def _paper_behind(system, start, papers, settings, step, room):
     return found_carried(system, source, step, many, room)
 
 
-def _word_without_paper(system, box, step, room):
+def word_without_paper(system, box, step, room):
     """The word for a box from which no paper was found even with the shortest step."""
     if room == 0:
         return "step"
@@ -41,7 +41,7 @@ def _word_without_paper(system, box, step, room):
     return "grains" if is_held else "step"
 
 
-def _room_for(settings, step, papers, left):
+def room_for(settings, step, papers, left):
     """How much room a step gets that may be made shorter."""
     most, room = settings[5], settings[7]
     if step * (most - papers) <= left:
@@ -64,7 +64,7 @@ def _next_paper(system, start, papers, settings, left):
     step = min(first, left)
     shortest = min(least, left)
     while step > shortest:
-        few = _room_for(settings, step, len(papers), left)
+        few = room_for(settings, step, len(papers), left)
         paper = _paper_behind(system, start, papers, settings, step, few)
         if paper is not None:
             return (paper, None)
@@ -72,7 +72,7 @@ def _next_paper(system, start, papers, settings, left):
     paper = _paper_behind(system, start, papers, settings, step, room)
     if paper is not None:
         return (paper, None)
-    return (None, _word_without_paper(system, box, step, room))
+    return (None, word_without_paper(system, box, step, room))
 
 
 def _gone_on(system, start, papers, settings, time):
@@ -93,15 +93,20 @@ def _check_begin(system, box):
     check_box_of(len(system[1]), box)
 
 
-def run(system, box, time, settings):
-    _check_begin(system, box)
-    check_time(time, MOST_TIME)
-    check_settings(settings)
+def run_to(system, box, time, settings):
+    """What is told of values that are known to be right."""
     papers, word = _gone_on(system, box, [], settings, time)
     told = ("run", system, box, tuple(papers))
     if word is None:
         return ("whole", told)
     return ("spent", told, word)
+
+
+def run(system, box, time, settings):
+    _check_begin(system, box)
+    check_time(time, MOST_TIME)
+    check_settings(settings)
+    return run_to(system, box, time, settings)
 
 
 class Runner:

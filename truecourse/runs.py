@@ -18,31 +18,41 @@ def is_set_paper(paper):
     return paper[0] == "carried"
 
 
-def _are_taken(system, papers):
-    """Whether all of any values are step papers, or all carried papers, that are taken."""
-    if all(is_taken(system, paper) for paper in papers):
-        return True
-    return all(is_carried_taken(system, paper) for paper in papers)
+def looks_carried(value):
+    """Of any value whether it is a tuple that begins as a carried paper does."""
+    if not isinstance(value, tuple) or len(value) == 0 or not isinstance(value[0], str):
+        return False
+    return value[0] == "carried"
 
 
-def _are_chained(start, papers):
-    """Whether each of some papers of one kind begins where the one ahead ends."""
-    if is_set_paper(papers[0]):
-        source = set_from_box(start)
-        for paper in papers:
-            if paper[1] != source:
-                return False
-            source = paper[5]
-        return True
-    box = start
-    for paper in papers:
-        if not is_box_within(box, paper[1]):
-            return False
-        box = paper[5]
-    return True
+def first_ahead(start, is_set):
+    """What the first paper of a run must begin with."""
+    return set_from_box(start) if is_set else start
 
 
-def is_run(value):
+def is_paper_behind(system, ahead, is_set, value):
+    """Whether any value is a paper of the kind that is taken, chained to what stands ahead.
+
+    This is the box, or the set, to which the paper ahead leads.
+    """
+    if is_set:
+        return is_carried_taken(system, value) and value[1] == ahead
+    return is_taken(system, value) and is_box_within(ahead, value[1])
+
+
+def first_at_fault(system, start, values):
+    """The position of the first of some values by which they are no papers of a run, or None."""
+    is_set = len(values) > 0 and looks_carried(values[0])
+    ahead = first_ahead(start, is_set)
+    for k, value in enumerate(values):
+        if not is_paper_behind(system, ahead, is_set, value):
+            return k
+        ahead = value[5]
+    return None
+
+
+def is_run_form(value):
+    """Whether any value is a run, whatever its papers are."""
     if not isinstance(value, tuple) or len(value) != 4:
         return False
     word, system, start, papers = value
@@ -50,11 +60,11 @@ def is_run(value):
         return False
     if not is_box(start) or len(start) != len(system[1]):
         return False
-    if not isinstance(papers, tuple) or len(papers) > MOST_PAPERS:
-        return False
-    if len(papers) == 0:
-        return True
-    return _are_taken(system, papers) and _are_chained(start, papers)
+    return isinstance(papers, tuple) and len(papers) <= MOST_PAPERS
+
+
+def is_run(value):
+    return is_run_form(value) and first_at_fault(value[1], value[2], value[3]) is None
 
 
 def check_run(run):
@@ -91,6 +101,13 @@ def begin_times(papers):
 def begins(run):
     check_run(run)
     return begin_times(run[3])
+
+
+def begin_of(paper):
+    """The box in which a paper begins."""
+    if is_set_paper(paper):
+        return hull_of_set(paper[1])
+    return paper[1]
 
 
 def end_of(paper):

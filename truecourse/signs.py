@@ -7,7 +7,7 @@ from truecourse.exact import ratio_of
 from truecourse.grains import ONE, middle_of
 from truecourse.kinds import is_from_to
 from truecourse.polys import check_poly
-from truecourse.ranges import best_on, check_box_for, plain_on
+from truecourse.ranges import best_on, check_box_for, plain_on, word_of
 from truecourse.terms import terms_slope, terms_value
 
 _MOST_ROOM = 199
@@ -18,11 +18,9 @@ _LEAF = ("leaf",)
 
 def _leaf_word(poly, box):
     """The word for which a leaf holds over the box, None if there is none."""
-    low, high = best_on(poly, box)
-    if low > 0:
-        return "above"
-    if high < 0:
-        return "below"
+    word = word_of(best_on(poly, box))
+    if word is not None:
+        return word
     numbers = corners_of(poly, box)
     if all(number[0] > 0 for number in numbers):
         return "above"
@@ -40,7 +38,7 @@ def _middle_word(poly, box):
     return "above" if number > 0 else "below"
 
 
-def _cut_position(poly, box):
+def cut_position(poly, box):
     """The letter by which the values seem to differ the most, None if no cut would help."""
     found = None
     most = 0
@@ -62,7 +60,7 @@ def _paper_for(poly, box, word, room, deep):
         return (_LEAF, 0)
     if told is not None or room == 0 or deep == _MOST_DEEP:
         return None
-    position = _cut_position(poly, box)
+    position = cut_position(poly, box)
     if position is None or _middle_word(poly, box) != word:
         return None
     first, second = box_halves(box, position)
@@ -103,14 +101,14 @@ def _is_part(value, letters):
     return is_from_to(value[1], 0, letters - 1)
 
 
-def _is_form(value, letters):
-    """Whether any value is a sign paper for so many letters, whether it holds or not."""
+def is_tree(value, letters, most_parts, most_deep):
+    """Whether any value is a tree of leaves and cuts of so many letters, not too large."""
     waiting = [(value, 1)]
     many = 0
     while waiting:
         part, deep = waiting.pop()
         many += 1
-        if many > _MOST_PARTS or deep > _MOST_DEEP or not _is_part(part, letters):
+        if many > most_parts or deep > most_deep or not _is_part(part, letters):
             return False
         if part[0] == "cut":
             waiting.append((part[3], deep + 1))
@@ -118,25 +116,38 @@ def _is_form(value, letters):
     return True
 
 
-def is_held_sign(poly, box, word, value):
-    """Whether any value is a sign paper that holds for a word that is one."""
-    if not _is_form(value, len(box)):
-        return False
-    waiting = [(value, box)]
+def leaf_boxes(tree, box):
+    """The pieces of a box at which the leaves of a tree stand, the first piece first."""
+    found = []
+    waiting = [(tree, box)]
     while waiting:
         part, piece = waiting.pop()
         if part[0] == "cut":
             first, second = box_halves(piece, part[1])
             waiting.append((part[3], second))
             waiting.append((part[2], first))
-        elif _leaf_word(poly, piece) != word:
+        else:
+            found.append(piece)
+    return found
+
+
+def is_held_sign(poly, box, word, value):
+    """Whether any value is a sign paper that holds for a word that is one."""
+    if not is_tree(value, len(box), _MOST_PARTS, _MOST_DEEP):
+        return False
+    for piece in leaf_boxes(value, box):
+        if _leaf_word(poly, piece) != word:
             return False
     return True
+
+
+def is_sign_word(value):
+    return isinstance(value, str) and (value == "above" or value == "below")
 
 
 def is_sign_paper(poly, box, word, value):
     check_poly(poly)
     check_box_for(poly, box)
-    if not isinstance(word, str) or (word != "above" and word != "below"):
+    if not is_sign_word(word):
         raise InvalidWord(word)
     return is_held_sign(poly, box, word, value)

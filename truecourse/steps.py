@@ -9,21 +9,33 @@ from truecourse.polys import check_system
 from truecourse.series import grain_series, grain_sum
 
 
-def sums_at(polys, box, many, held, times):
-    """What the courses come to at these times of a step, not yet met with the held box."""
+def rows_of_step(polys, box, many, held):
+    """The coefficients that are summed, of each letter: those from the box, the last on held."""
     near = grain_series(polys, box, many)
     far = grain_series(polys, held, many + 1)
-    return [grain_sum(row + rest[-1:], times) for row, rest in zip(near, far)]
+    return [row + rest[-1:] for row, rest in zip(near, far)]
+
+
+def sums_at(polys, box, many, held, times):
+    """What the courses come to at these times of a step, not yet met with the held box."""
+    return [grain_sum(row, times) for row in rows_of_step(polys, box, many, held)]
+
+
+def met_rows(rows, held, times):
+    """Rows of coefficients summed, and met with the held box.
+
+    It must hold the courses: else a meet may be None.
+    """
+    return tuple([grain_meet(grain_sum(row, times), own) for row, own in zip(rows, held)])
 
 
 def met_sums(polys, box, many, held, times):
-    """The same met with the held box, which must hold the courses: else a meet may be None."""
-    sums = sums_at(polys, box, many, held, times)
-    return tuple([grain_meet(one, other) for one, other in zip(sums, held)])
+    """What the courses come to at these times of a step."""
+    return met_rows(rows_of_step(polys, box, many, held), held, times)
 
 
-def _is_form(value, letters):
-    """Whether any value is a step paper of so many letters, taken or not."""
+def is_step_form(value):
+    """Whether any value is a step paper of some number of letters, taken or not."""
     if not isinstance(value, tuple) or len(value) != 6:
         return False
     word, box, step, many, held, end = value
@@ -31,12 +43,14 @@ def _is_form(value, letters):
         return False
     if not is_step_length(step) or not is_order(many):
         return False
-    return all(is_box(part) and len(part) == letters for part in (box, held, end))
+    if not all(is_box(part) for part in (box, held, end)):
+        return False
+    return len(box) == len(held) == len(end)
 
 
 def is_taken(system, value):
     """Whether any value is a step paper, of a system that is known to be one, that is taken."""
-    if not _is_form(value, len(system[1])):
+    if not is_step_form(value) or len(value[1]) != len(system[1]):
         return False
     _, box, step, many, held, end = value
     try:
