@@ -17,7 +17,7 @@ from truecourse.guards import once
 from truecourse.polytexts import parse_poly
 from truecourse.runners import run as run_to
 from truecourse.runs import begins, box_at, end_time, is_run
-from truecourse.sets import set_hull, set_of_box
+from truecourse.sets import set_of_box
 from truecourse.settings import plain_settings
 
 FOUR = 4 * ONE

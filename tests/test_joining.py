@@ -4,7 +4,7 @@ import unittest
 from fractions import Fraction
 from random import Random
 
-from tests.courses import BOXES as STARTS, CLOCK, FALLS, KNOWN, RATED, STILL, THROWN, TURNS, lies_in, starts, system
+from tests.courses import BOXES as STARTS, CLOCK, FALLS, KNOWN, RATED, STILL, THROWN, TURNS, lies_in, starts
 from tests.reference import some_interval, some_poly, value
 from tests.support import ONE, OTHERS, SYSTEM, check_calls, refuses, too_many, with_part
 from tests.test_runs import TURNED
