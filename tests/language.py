@@ -226,6 +226,10 @@ def top_faults(module):
                        ast.Name, ast.operator, ast.unaryop, ast.Load)
             if not all(isinstance(part, allowed) for part in ast.walk(node.value)):
                 found.append(f"L3 {place}")
+            for part in ast.walk(node.value):
+                # Of names only functions of this file may stand there.
+                if isinstance(part, ast.Name) and part.id not in module.defined - module.classes:
+                    found.append(f"L3 {place} {part.id}")
             if any(isinstance(part, (ast.List, ast.Dict))
                    for part in ast.walk(node.value) if part is not node.value):
                 found.append(f"L15 {place}")

@@ -8,7 +8,10 @@ from random import Random
 from tests.courses import decimal, lies_in, starts
 from tests.decimals import cosine, exp, log, sine
 from tests.support import ONE
+from truecourse.crossings import crossings, sign_at, stretches, undecided
+from truecourse.desk import Desk
 from truecourse.flattening import flattened
+from truecourse.judge import judged
 from truecourse.parser import parse_model
 from truecourse.printer import model_text
 from truecourse.runners import run
@@ -60,6 +63,27 @@ class TestWholeWay(unittest.TestCase):
                         row = course(*point, Fraction(time, ONE))
                         self.assertTrue(lies_in(row, box_at(told[1], time)[:own]), (name, kind, time))
                         self.assertTrue(lies_in(row, box_between(told[1], time // 2, time)[:own]), (name, kind, time))
+
+    def test_overview(self):
+        """[1]: it falls below one half between two told moments; all that is told is judged anew."""
+        desk = Desk()
+        desk.do_all("model m " + MODELS["dies"][0], "flat f m", "run r f 12 set 5", "guard g f x - 1/2")
+        path, guard = desk["r"], desk["g"]
+        told = stretches(path, guard, 6)
+        self.assertEqual(judged(("stretches", path, guard, told)), ("ok", "stretches"))
+        (early, late), = undecided(path, guard, told)
+        self.assertEqual([sign_at(path, guard, told, time) for time in (0, ONE, early)], ["above"] * 3)
+        random = Random(1)
+        for x, k in starts(path[2], random, 4):
+            self.assertTrue(x * exp(-k * Fraction(early, ONE)) > Fraction(1, 2))
+        self.assertEqual(desk.do("judged r"), "ok")
+        # With the start and the rate told more closely it is just once, within one step.
+        desk.do_all("start f x 6/5..61/50", "start f k 1/5", "run s f 5 set 5")
+        told = stretches(desk["s"], guard, 6)
+        (early, late, way), = crossings(desk["s"], guard, told)
+        self.assertEqual((way, undecided(desk["s"], guard, told)), ("down", []))
+        for x, k in starts(desk["s"][2], random, 4):
+            self.assertTrue(x * exp(-k * Fraction(early, ONE)) > Fraction(1, 2) > x * exp(-k * Fraction(late, ONE)))
 
     def test_boxes_are_not_much_wider_than_the_courses(self):
         for name, most in [("dies", 3 * ONE // 5), ("over", ONE // 4), ("exp", ONE // 5), ("sin", 21 * ONE // 10), ("log", ONE // 1000)]:

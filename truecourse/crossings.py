@@ -211,23 +211,24 @@ def _is_shorter(watched, part, early, late):
 def _sharper(watched, part, room):
     """The stretches in the place of a "once".
 
-    Both ends are moved in by halves: the early one not so far as to a time at which it was seen
-    that it can't be there, and so the late one.
+    The early end is looked for from where it may be to where it can't, and so the late one; both
+    by halves, so that they go together as long as these tell on which side all courses cross.
     """
     _, early, late, way = part
     latest = late
     earliest = early
     for _ in range(room):
-        at = (early + latest) // 2
-        if at > early and _is_shorter(watched, part, at, late):
-            early = at
+        first = (early + latest) // 2
+        final = (earliest + late) // 2
+        if first > early and _is_shorter(watched, part, first, late):
+            early = first
         else:
-            latest = at
-        at = (max(earliest, early) + late) // 2
-        if early < at < late and _is_shorter(watched, part, early, at):
-            late = at
+            latest = first
+        if early < final < late and _is_shorter(watched, part, early, final):
+            late = final
         else:
-            earliest = at
+            earliest = final
+        earliest = max(earliest, early)
         latest = min(latest, late)
     found = [("once", early, late, way)]
     if early > part[1]:

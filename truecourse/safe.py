@@ -14,8 +14,8 @@ from truecourse.terms import terms_value
 _MOST_NODES = 127
 _MOST_DEEP = 12
 _LEAF = ("leaf",)
-# A face that isn't shown is moved out by half of the box's width there, and at least so far.
-_LEAST_MOVE = ONE // 8
+# A face that isn't shown is moved out by half of the box's width there, and at least by 1/8.
+_LEAST_MOVE = 1 << 37
 
 
 def _face(box, position, is_low):

@@ -3,7 +3,6 @@
 from truecourse.boxes import check_box_of, is_box
 from truecourse.checks import check_time
 from truecourse.errors import InvalidSwitched
-from truecourse.grains import ONE
 from truecourse.kinds import is_count, is_integer, is_listed
 from truecourse.machines import check_machine, check_mode, is_machine
 from truecourse.pieces import Traffic, are_pieces, behind_piece, is_stay, late_box_of, time_of_piece
@@ -12,7 +11,8 @@ from truecourse.settings import check_settings
 from truecourse.steps import met_sums
 from truecourse.trips import followed
 
-_MOST_TIME = 64 * ONE
+# 64, in grains.
+_MOST_TIME = 64 << 40
 _MOST_PIECES = 120
 _WORDS = ("width", "steps", "step", "grains")
 
