@@ -88,6 +88,19 @@ class TestJudged(unittest.TestCase):
                 for value in values:
                     self.assertEqual(judged(with_part(CLAIMS[k], place, value)), BAD, (CLAIMS[k][0], place, value))
 
+    def test_parts_that_do_not_go_together(self):
+        # Without a sign there is no word for it, be it None; each box is of its system.
+        line = (((1,), (1, 1)),)
+        for word in (None, "above", "below", "perhaps"):
+            self.assertEqual(judged(("sign", line, ((-5, 5),), word, LEAF)), BAD)
+            self.assertEqual(judged(("sign", (), ((-5, 5),), word, LEAF)), BAD)
+        self.assertEqual(judged(("safe", FALLS, FIVE * 2, (PAIR, PAIR))), BAD)
+        self.assertEqual(judged(("safe", TURNS, ((0, 0),), (PAIR,))), BAD)
+        twice = ("switched", TURNING, 0, POINT * 2, [], ("whole",))
+        self.assertEqual(judged(("switched", TURNING, 0, POINT * 2, twice)), BAD)
+        self.assertEqual(judged(("switched", TURNING, 0, POINT, with_part(SWITCHED, 4, []))), ("ok", "switched"))
+        self.assertEqual(judged(("switched", TURNING, 2, POINT, with_part(with_part(SWITCHED, 4, []), 2, 2))), BAD)
+
     def test_runs_by_form(self):
         for value in RUNS[1]:
             told = judged(value)

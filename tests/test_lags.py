@@ -111,6 +111,9 @@ class TestCrosses(unittest.TestCase):
         for guard, told in [("x", "down"), ("-x", "up"), ("x - 1", None), ("x + 1", None), ("x - 2", None), ("0", None), ("x^2", None),
                             ("x^3 + x", "down"), ("x + 999/1000", "down"), ("999/1000 - x", "up"), ("x^3", None), ("7", None)]:
             self.assertEqual(crosses(DOWN, PAPER, poly(guard, "x")), told, guard)
+        rising = ("step", ((-ONE, -ONE),), 2 * ONE, 1, ((-ONE, ONE),), ((ONE, ONE),))
+        for guard, told in [("x", "up"), ("x^3", None), ("x^3 + x", "up"), ("-x^3", None), ("-x", "down"), ("x + 1", None)]:
+            self.assertEqual(crosses(UP, rising, poly(guard, "x")), told, guard)
         # Begin and end must not touch, nor must the slope.
         self.assertIsNone(crosses(DOWN, with_part(PAPER, 5, ((-ONE, 0),)), LETTER))
         self.assertEqual(crosses(DOWN, with_part(PAPER, 5, ((-ONE, -1),)), LETTER), "down")

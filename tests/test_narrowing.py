@@ -85,7 +85,8 @@ class TestNarrowings(unittest.TestCase):
                 (((0, "low", -1),), ((-1, 8 * ONE),), False), (((0, "high", 8 * ONE + 1),), ((0, 8 * ONE + 1),), False),
                 (((0, "low", 8 * ONE),), ((8 * ONE, 8 * ONE),), False), (((0, "high", 0),), ((0, 0),), False),
                 (((1, "low", 3),), ((3, 8 * ONE),), False), (((-1, "low", 3),), ((3, 8 * ONE),), False),
-                (((0, "Low", 3),), ((3, 8 * ONE),), False), (((0, None, 3),), ((3, 8 * ONE),), False),
+                (((0, "Low", 3),), ((3, 8 * ONE),), False), (((0, "High", 10),), ((0, 10),), False), (((0, "", 10),), ((0, 10),), False),
+                (((0, "low", 1),), ((1, 8 * ONE),), True), (((0, "low", 1),), ((True, 8 * ONE),), False), ((), ((False, 8 * ONE),), False), (((0, None, 3),), ((3, 8 * ONE),), False),
                 (((False, "low", 3),), ((3, 8 * ONE),), False), (((0, "low", True),), ((1, 8 * ONE),), False),
                 (((0, "low", 2), (0, "low", 3)), ((3, 8 * ONE),), True), (((0, "low", 3), (0, "low", 2)), ((2, 8 * ONE),), False),
                 (((0, "low", 3), (0, "low", 2)), ((3, 8 * ONE),), False), (((0, "high", 10), (0, "high", 11)), ((0, 10),), False)]:

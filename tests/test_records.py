@@ -216,7 +216,7 @@ class TestRead(unittest.TestCase):
                 (2, ["slope", "slope ", "slope t + 1", "slope 1 + x", "slope 1 ", "slope  1", "slope 2/2", "slope 01", "slope +1", "slope 1/1", "slope t^9",
                      "slope 1*t", "slope t*t", "slope -0", "slope 1 + 0", "slope 1+t", "slope 1/0", "slope t^1", "slope " + "9" * 41, "slope"]),
                 (3, ["start", "start 0", "start 0 0 0", "start 1 0", "start 00 0", "start -0 0", "start 0 0 ", "start  0 0", "start 0 1/2", "start x 0",
-                     f"start 0 {MOST + 1}", f"start {-MOST - 1} 0", "start +0 0", "start 0 0 0 0", "Start 0 0", "start 0 " + "9" * 41]),
+                     f"start 0 {MOST + 1}", f"start {-MOST - 1} 0", "start +0 0", "start 0 0 0 0", "start - 0", "start -- 0", "start 0 -", "start -01 0", "start 0- 0", "Start 0 0", "start 0 " + "9" * 41]),
                 (4, ["step", f"step {ONE}", f"step {ONE} 0", f"step {ONE} 9", "step 0 2", f"step {8 * ONE + 1} 2", f"step {ONE} 2 2", f"step 0{ONE} 2",
                      f"step {ONE} 02", f"step {ONE} x", f"step -{ONE} 2", f"step {ONE} 2 ", "from 0 0", "done 1", "done", "done ", "done 00", "done 0 0", "middle 0"]),
                 (5, ["from", "from 0", "from 0 0 0", "from 1 0", "held 0 0", "middle 0", "from 0 00", "from 0 -0", f"from 0 {MOST + 1}"]),
@@ -263,7 +263,7 @@ class TestRead(unittest.TestCase):
         lines = bodies_of(record_text(TURNED))
         for at, bodies in [
                 (6, ["middle", "middle 1", "middle 1 2 3", "middle 2/4 0", "middle 1/1 0", "middle 0/5 0", "middle 1/0 0", "middle 01 0", "middle -0 0",
-                     "middle 1/-2 0", "middle 1/02 0", "middle x 0", "row 1 0", "middle 1 0 ", "middle " + "9" * 41 + " 0", "middle 1/" + "9" * 41 + " 0"]),
+                     "middle 1/-2 0", "middle 1/02 0", "middle x 0", "middle x/2 0", "middle /2 0", "middle 1/ 0", "middle 1/x 0", "middle - 0", "middle 1/- 0", "middle -/2 0", "row 1 0", "middle 1 0 ", "middle " + "9" * 41 + " 0", "middle 1/" + "9" * 41 + " 0"]),
                 (7, ["row 1", "row 1 0 0", "row 0.5 0", "middle 1 0", "within 0 0 0 0", "row 1/1 0"]), (9, ["within 0 0", "within 1 0 0 0", "held 0 0 0 0", "row 0 1"]),
                 (10, ["held 0 0", "within 0 0 0 0", "held 0 0 1 0"]), (11, ["row 1 0", "held 0 0 0 0"])]:
             for body in bodies:
@@ -274,7 +274,9 @@ class TestRead(unittest.TestCase):
             bent = lines[:at] + ["row 0 0"] + lines[at + 1:]
             self.assertEqual(wrong_at(text_of(bent)), 15)
         # 40 digits may stand.
-        self.assertEqual(wrong_at(text_of(lines[:6] + ["middle " + "9" * 40 + " 1/" + "9" * 40] + lines[7:])), 15)
+        for sign in ("", "-"):
+            self.assertEqual(wrong_at(text_of(lines[:6] + ["middle " + sign + "9" * 40 + " " + sign + "1/" + "9" * 40] + lines[7:])), 15)
+            self.assertEqual(wrong_at(text_of(lines[:6] + ["middle " + sign + "9" * 41 + " 0"] + lines[7:])), 7)
 
     def test_sixty(self):
         own = ("system", ("x",), ((),))

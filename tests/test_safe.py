@@ -14,6 +14,7 @@ from truecourse.errors import InvalidBox, InvalidRoom, TooMany
 from truecourse.polys import poly_plus, poly_scaled
 from truecourse.polytexts import parse_poly
 from truecourse.ranges import best_range
+from truecourse.ratios import ratio
 from truecourse.safe import is_safe, safe_around, safe_paper
 
 LEAF = ("leaf",)
@@ -116,6 +117,22 @@ class TestPapers(unittest.TestCase):
             else:
                 self.assertIsNone(safe_paper(own, box, 0))
 
+    def test_best_range_where_there_are_many_corners(self):
+        # By the best range a leaf shows it, however many corner numbers there would be.
+        box = ((ONE, 2 * ONE), (0, ONE), (0, ONE))
+        own = told_by("abc", "1000 - 1000*a + b^8 + c^8 + a^4*c", "0", "0")
+        too_many(corner_range, "corners", 400, own[2][0], face(box, 0, 0))
+        self.assertIs(is_safe(own, box, (PAIR,) * 3), True)
+        self.assertEqual(safe_paper(own, box, 0), (PAIR,) * 3)
+
+    def test_boxes_of_a_grain(self):
+        # y^2 - 9/10 g y + g^2 / 8, g a grain: nowhere seen to be below 0, and no cut would help.
+        own = ("system", ("x", "y"), (tuple(sorted([
+            ((0, 0), (99 * 2 ** 83 + 1, 2 ** 83)), ((1, 0), (-99, 1)), ((0, 2), (1, 1)), ((0, 1), (-9, 10 * ONE))])), ()))
+        own = own[:2] + ((tuple((e, ratio(*number)) for e, number in own[2][0]), ()),)
+        for room in (0, 9, 60):
+            self.assertIsNone(safe_paper(own, ((ONE, 2 * ONE), (0, 1)), room))
+
     def test_nodes_and_depth(self):
         for tree in (bush(64), bush(65), chain(12), chain(13)):
             nodes, deep = parts_and_depth(tree)
@@ -184,6 +201,18 @@ class TestSearch(unittest.TestCase):
             for room in (1, 9, 60):
                 told = self.check(own, box, room)
                 self.assertEqual(told[0][0], ("cut", 1, LEAF, LEAF))
+        # With one cut less than the tree has none is found; with more it stays as it is.
+        for text, many in [("1/90 + y^2 - y + 1/4", 3), ("1/3 + y^2 - 2*y*z + z^2", 13), ("1/20 + y^2 - 2*y*z + z^2", 45)]:
+            own, box = told_by("xyz", "99 - 99*x + " + text, "0", "0"), ((ONE, 2 * ONE), (0, 4 * ONE), (0, 4 * ONE))
+            found = [self.check(own, box, room) for room in range(61)]
+            self.assertEqual([told is None for told in found], [True] * many + [False] * (61 - many))
+            self.assertEqual(found[many:], [found[many]] * (61 - many))
+            self.assertEqual(parts_and_depth(found[many][0][0])[0], 2 * many + 1)
+        # Trees that would have to be 13 deep are not told, however few cuts they have.
+        for k, deep in [(10, 7), (18, 11), (19, 12), (20, 12), (21, None), (30, None)]:
+            own, box = told_by("xy", f"99 - 99*x + y^2 - 2/3*y + 1/9 + 1/{2 ** k}", "0"), ((ONE, 2 * ONE), (0, 4 * ONE))
+            told = self.check(own, box, 60)
+            self.assertEqual(None if told is None else parts_and_depth(told[0][0])[1], deep)
         # Nearer to 0, more cuts are needed.
         own = told_by("xy", "10 - 9*x - 19/10*y + 19/10*y^2 - 1/2*y^4 + y^5", "0")
         told = self.check(own, ((ONE, 2 * ONE), (0, ONE)), 60)
