@@ -11,7 +11,8 @@ from tests.decimals import exp, log
 from tests.support import (
     BOXES, MOST, ONE, OTHERS, SETTING, check_calls, counts_wrong, refuses, with_part)
 from tests.test_lags import sign
-from tests.test_machines import BALL, DOWN, LETTER, MACHINES, MIXED, MODE, THERMOSTAT, TURNING, UP, WAY, poly
+from tests.test_machines import (
+    BALL, DOWN, LETTER, MACHINES, MIXED, MODE, THERMOSTAT, TURNING, UP, WAY, poly, told as told_by)
 from tests.test_runs import TURNED
 from truecourse.boxes import box_within
 from truecourse.errors import InvalidBox, InvalidSwitched, InvalidTime, TooMany
@@ -58,8 +59,13 @@ FORMS = OTHERS + [3, "switched", (), list(TOLD), TOLD[:5], TOLD + (1,), TOLD[1:]
         (2, with_part(PAPER, 2, ONE)), (2, TURNED[3][0]), (3, False), (3, ()), (3, with_part(NARROWING, 0, "x")), (3, list(NARROWING)),
         (3, with_part(NARROWING, 1, poly("2*x", "x"))), (3, with_part(NARROWING, 2, (0, 1))), (3, with_part(NARROWING, 3, ((-ONE, ONE + 1),))),
         (3, with_part(NARROWING, 5, ((-9, 7),))), (4, None), (4, ((-ONE + 1, 3 * ONE),)), (4, ((-ONE, 3 * ONE - 1),)), (4, POINT * 2),
-        (4, [(-ONE, 3 * ONE)]), (5, 0), (5, 9), (5, True), (5, None)]]
-VALUE = (InvalidSwitched, FORMS)
+        (4, [(-ONE, 3 * ONE)]), (4, ((-ONE, 3 * ONE), (0, 0))), (5, 0), (5, 9), (5, True), (5, None)]] + [
+    # True and False stand for 1 and 0 nowhere, be the values equal.
+    with_part(TOLD, 1, with_part(TURNING, 2, (with_part(WAY, place, part),))) for place, part in [(0, False), (3, True)]]
+# Values that are no SWITCHED of their own machine, mode and box.
+LOST = [("switched", TURNING, mode, box, [], ("whole",)) for mode, box in [
+    (0, POINT * 2), (2, POINT), (-1, POINT), (True, POINT), (0, ((False, True),)), (0, None), (None, POINT), (0, [(ONE, ONE)])]]
+VALUE = (InvalidSwitched, FORMS + LOST)
 
 
 def plain(kind="box", many=3, first=ONE // 4, least=ONE // 1024, most=60, widest=MOST >> 10, room=20):
@@ -190,6 +196,7 @@ def check_switched(test, machine, mode, box, time, settings):
             left = time - passed
             test.assertTrue(min(least, left) <= paper[2] <= min(first, left))
             test.assertEqual(paper[3], many)
+            test.assertEqual(paper[0], "carried" if piece[0] == "stay" and kind == "set" else "step")
             passed += paper[2]
     test.assertEqual(switched_time(told), passed)
     test.assertTrue(len(pieces) <= 120 and come_to[-1][3] <= most)
@@ -242,6 +249,13 @@ class TestJudge(unittest.TestCase):
         self.assertIs(is_switched(TURNING, 0, ((ONE, ONE + 1),), TOLD), False)
         self.assertIs(is_switched(with_part(TURNING, 2, ()), 0, POINT, TOLD), False)
         self.assertIs(is_switched(TURNING, 1, POINT, with_part(with_pieces(), 2, 1)), True)
+        self.assertIs(is_switched(TURNING, 1, POINT, with_part(with_pieces(), 2, True)), False)
+        small = with_part(with_pieces(), 3, ((0, 1),))
+        self.assertIs(is_switched(TURNING, 0, ((0, 1),), small), True)
+        for box in (((False, 1),), ((0, True),), [(0, 1)]):
+            self.assertIs(is_switched(TURNING, 0, ((0, 1),), with_part(small, 3, box)), False)
+        for value in LOST:
+            self.assertIs(is_switched(TURNING, 0, POINT, value), False)
         self.assertEqual(switched_time(with_part(with_pieces(), 2, 1)), 0)
 
     def test_boxes_within(self):
@@ -298,6 +312,17 @@ class TestJudge(unittest.TestCase):
         for guard, word, told in [("x + 2", "up", True), ("x + 1", "up", False), ("x", "down", True), ("x - 4", "up", True), ("x - 3", "up", False)]:
             machine = with_part(TURNING, 2, (WAY, (1, poly(guard, "x"), word, 0, (LETTER,))))
             self.assertIs(is_switched(machine, 0, POINT, with_part(TOLD, 1, machine)), told, (guard, word))
+
+    def test_ways_of_the_mode(self):
+        # The way must be one from the present mode, though all else would fit.
+        far = with_part(TURNING, 2, (WAY, (1, poly("x + 9", "x"), "down", 1, (LETTER,))))
+        for w, told in [(0, True), (1, False), (2, False)]:
+            self.assertIs(is_switched(far, 0, POINT, with_part(with_switch(1, w), 1, far)), told)
+        both = ("machine", (DOWN, DOWN), (WAY, with_part(WAY, 0, 1)))
+        catch = with_part(SWITCH, 4, ((-3 * ONE, ONE),))
+        self.assertIs(is_switched(with_part(both, 2, (WAY,)), 0, POINT, with_part(with_pieces(catch), 1, with_part(both, 2, (WAY,)))), True)
+        other = with_part(both, 2, (with_part(WAY, 0, 1),))
+        self.assertIs(is_switched(other, 0, POINT, with_part(with_pieces(catch), 1, other)), False)
 
     def test_words(self):
         # The paper must cross as the way's word tells.
@@ -444,8 +469,27 @@ class TestSwitched(unittest.TestCase):
                 told = check_switched(self, TURNING, 0, ((ONE - 9, ONE),), 4 * ONE, plain(most=most, first=first, least=ONE // 64))
                 if first == 4 * ONE:
                     self.assertEqual(len(taken_ways(told)), 1)
+        # With the one step that may be there is no stay, but a switch.
+        for kind in ("box", "set"):
+            told = check_switched(self, TURNING, 0, ((ONE - 9, ONE),), 4 * ONE, plain(kind, first=4 * ONE, least=4 * ONE))
+            self.assertEqual((told[5], taken_ways(told)), (("whole",), [(0, 0, 4 * ONE)]))
         self.assertTrue(plain_switch_fits(TURNING, 0, POINT, 4 * ONE, plain(first=4 * ONE)))
         self.assertFalse(plain_switch_fits(TURNING, 0, POINT, 4 * ONE, plain(first=ONE // 4)))
+
+    def test_switches_that_were_put_off(self):
+        """Where it does not go on to a better switch, the one that fits is told after all."""
+        spreading = told_by("xy", "-1", "1/2*y")
+        machine = ("machine", (spreading, UP), ((0, poly("x", "x", "y"), "down", 1, (poly("x", "x", "y"),)),))
+        box = ((ONE // 2, ONE // 2), (0, ONE))
+        for kind in ("box", "set"):
+            for widest, most in [(ONE + ONE // 20, 60), (2 * ONE, 2), (2 * ONE, 1), (2 * ONE, 60), (ONE, 60)]:
+                settings = plain(kind, 3, ONE, widest=widest, most=most)
+                self.assertTrue(plain_switch_fits(machine, 0, box, 2 * ONE, settings))
+                told = check_switched(self, machine, 0, box, 2 * ONE, settings)
+                self.assertEqual(len(taken_ways(told)), 1)
+                if widest < 2 * ONE:
+                    # One stay would make it too wide.
+                    self.assertEqual(taken_ways(told)[0][1], 0)
 
     def test_some_machines(self):
         random = Random(139)
