@@ -318,11 +318,10 @@ class TestJudge(unittest.TestCase):
         far = with_part(TURNING, 2, (WAY, (1, poly("x + 9", "x"), "down", 1, (LETTER,))))
         for w, told in [(0, True), (1, False), (2, False)]:
             self.assertIs(is_switched(far, 0, POINT, with_part(with_switch(1, w), 1, far)), told)
-        both = ("machine", (DOWN, DOWN), (WAY, with_part(WAY, 0, 1)))
-        catch = with_part(SWITCH, 4, ((-3 * ONE, ONE),))
-        self.assertIs(is_switched(with_part(both, 2, (WAY,)), 0, POINT, with_part(with_pieces(catch), 1, with_part(both, 2, (WAY,)))), True)
-        other = with_part(both, 2, (with_part(WAY, 0, 1),))
-        self.assertIs(is_switched(other, 0, POINT, with_part(with_pieces(catch), 1, other)), False)
+        # From the second mode it is, from the first one, though its system is the same, it isn't.
+        like = ("machine", (DOWN, DOWN, UP), ((1, LETTER, "down", 2, (LETTER,)),))
+        for mode, told in [(1, True), (0, False)]:
+            self.assertIs(is_switched(like, mode, POINT, ("switched", like, mode, POINT, [SWITCH], ("whole",))), told)
 
     def test_words(self):
         # The paper must cross as the way's word tells.
